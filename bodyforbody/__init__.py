@@ -1,0 +1,1 @@
+"""Bodyforbody: for which counts a loop may have another body."""

@@ -1,0 +1,142 @@
+"""What several tests need: refusals, plain counterparts of the package, machines to try."""
+
+import unittest
+from random import Random
+
+from bodyforbody.machines import Machine
+
+NO_NUMBERS = (True, False, -1, 1.0, "1", None, (1,), [1], b"1")
+NO_SEQUENCES = (None, 5, "12", {1: 2}, {1, 2}, b"12", True, range(2))
+NO_FALLINGS = (None, 7, (), [(), 1], ((), True), ((), False), ((), -1), ((), 1, 1), ([], 1), ((), 1.0),
+               (((2, 1),), 0), (((2, 1),), 2), (((2, 1),), 3), (((3, 1),), 2), (((3, 0),), 1), (((3, True),), 1),
+               (((3, -1),), 1), (([3, 1],), 1), (((3, 1, 1),), 1), (((3, 1), (3, 1)), 1), (((2, 1), (3, 1)), 1),
+               (((5, 1), (4, 1), (3, 1)), 1), ((3, 1), 1), "ab", (((3.0, 1),), 1), ((), None))
+NO_COUNTS = NO_SEQUENCES + ((True,), [False], (1, -1), [2, "3"], (1.0,), ((),), (None,), [[1]])
+SHIFT = Machine(2, [(0, 0), (0, 1), (1, 1), (2, 0)])
+LONG = 10 ** 30 - 1
+
+
+class Case(unittest.TestCase):
+    """A test that also asks for an error with its class and its `at`."""
+
+    def refused(self, error, at, call, *told, **named):
+        with self.assertRaises(error) as caught:
+            call(*told, **named)
+        self.assertEqual(error, caught.exception.__class__)
+        self.assertEqual(at, caught.exception.at)
+        self.assertNotIsInstance(caught.exception.at, bool)
+
+    def told(self, wanted, answer):
+        """The very answer, and no list or bool in the place of a tuple or a number."""
+        self.assertEqual(repr(wanted), repr(answer))
+
+
+def some(seed):
+    """The same numbers in every run of the tests."""
+    return Random(seed)
+
+
+def plain_closing(counts, bound):
+    """All numbers up to the bound that x + y - z, done again and again, makes of the counts."""
+    found = {0} | {count for count in counts if count <= bound}
+    todo = list(found)
+    while todo:
+        new = todo.pop()
+        for other in list(found):
+            for third in list(found):
+                for one, two, low in ((new, other, third), (other, third, new)):
+                    made = one + two - low
+                    if low <= min(one, two) and made <= bound and made not in found:
+                        found.add(made)
+                        todo.append(made)
+    return sorted(found)
+
+
+def plain_members(falling, bound):
+    """The numbers of the set up to the bound, step by step."""
+    runs, end = falling
+    steps = [step for step, times in runs for _ in range(times)]
+    members = [0]
+    while members[-1] <= bound:
+        step = steps[len(members) - 1] if len(members) <= len(steps) else end
+        if step == 0:
+            return members
+        members.append(members[-1] + step)
+    return members[:-1]
+
+
+def plain_is_falling(steps, end):
+    """Whether these steps, then the end for ever, are those of a closed set."""
+    total = sum(steps)
+    bound = 2 * total + 2 * end + 2
+    members = plain_members((tuple((step, 1) for step in steps), end), bound)
+    return all(x + y - z in members for x in members for y in members for z in members
+               if z <= min(x, y) and x + y - z <= bound)
+
+
+def runs_of(steps):
+    """Equal steps side by side put in runs."""
+    runs = []
+    for step in steps:
+        if runs and runs[-1][0] == step:
+            runs[-1] = (step, runs[-1][1] + 1)
+        else:
+            runs.append((step, 1))
+    return tuple(runs)
+
+
+def rows_of_sum(total, end=1):
+    """All falling rows with this end whose runs add this much, found by trying all falling steps."""
+    found = []
+
+    def go(steps, left):
+        if left == 0:
+            if plain_is_falling(steps, end):
+                found.append((runs_of(steps), end))
+            return
+        for step in range(end + 1, min(left, steps[-1] if steps else left) + 1):
+            go(steps + [step], left - step)
+
+    go([], total)
+    return found
+
+
+def plain_power(change, count):
+    """The change done so many times, one by one."""
+    places = tuple(range(len(change)))
+    for _ in range(count):
+        places = tuple(change[place] for place in places)
+    return places
+
+
+def plain_row(machine, row, times=1):
+    """Where the row, done so many times, leads each state, command by command."""
+    places = list(range(machine.states))
+    for _ in range(times):
+        for command in row:
+            places = [machine.steps[place][command] for place in places]
+    return tuple(places)
+
+
+def machines(seed, many, most=7):
+    """Some small machines with two commands, some of which lose nothing."""
+    numbers = some(seed)
+    for at in range(many):
+        states = numbers.randint(1, most)
+        if at % 4 == 0:
+            columns = [numbers.sample(range(states), states) for _ in range(2)]
+        else:
+            columns = [[numbers.randrange(states) for _ in range(states)] for _ in range(2)]
+        yield Machine(2, list(zip(*columns)))
+
+
+def rings_machine(one, other):
+    """A machine without a loss: command 0 turns rings of the first lengths, command 1 those of the others."""
+    columns = []
+    for lengths in (one, other):
+        column = []
+        for length in lengths:
+            base = len(column)
+            column.extend([base + (at + 1) % length for at in range(length)])
+        columns.append(column)
+    return Machine(2, list(zip(*columns)))
