@@ -8,7 +8,6 @@ from bodyforbody.errors import Refused
 from bodyforbody.falling import checked_falling, has, runs_sum
 from bodyforbody.machines import Machine
 from bodyforbody.marks import checked_mark, fits, mark_for
-from bodyforbody.primes import is_prime_power
 
 
 def twin_of(mark, state):
@@ -56,10 +55,10 @@ def parted_machine():
 
 def parting_power(counts, count):
     """The least power of a prime that divides all counts, not the count, `None` if there is none so small."""
+    # The least divisor of this kind is such a power: of two factors without a common one, one would do as well.
     for divisor in range(2, count + 3):
-        if count % divisor != 0 and is_prime_power(divisor):
-            if all([told % divisor == 0 for told in counts]):
-                return divisor
+        if count % divisor != 0 and all([told % divisor == 0 for told in counts]):
+            return divisor
     return None
 
 

@@ -27,12 +27,12 @@ def common_end(first, second):
     """The least number at whose multiples, from the reach on, both changes agree; 0 if they do at none."""
     start = later_tail(first, second)
     rings = common_ring(first, second)
-    far = rounded_up(max(start, 1), rings)
+    far = rounded_up(start, rings)
     if not alike_at(first, second, far):
         return 0
     end = rings
     for prime in prime_factors(rings):
-        # So far on, only what both rings leave of the count matters.
+        # From the reach on only what both rings leave of a count matters.
         while end % prime == 0 and alike_at(first, second, far + end // prime):
             end = end // prime
     return end
@@ -51,8 +51,7 @@ def agreeing_changes(first, second):
             members.append(count)
         one = done_after(one, first)
         other = done_after(other, second)
-    if start > 0:
-        members.append(rounded_up(start, end))
+    members.append(rounded_up(max(start, 1), end))
     return falling_from(members, end)
 
 

@@ -16,7 +16,7 @@ def counts_below(falling, start):
 def counts_behind(end, start, rings):
     """Counts from the reach on, ascending, that show that no lesser end would do."""
     if end == 0:
-        return [rounded_up(max(start, 1), rings)]
+        return [rounded_up(start, rings)]
     return sorted([rounded_up(start, end) + end // prime for prime in prime_factors(end)])
 
 
@@ -50,8 +50,8 @@ def has_multiple(counts, divisor):
 
 
 def shows_end(end, start, rings, counts):
-    """Whether the counts show that no lesser end would do."""
-    behind = [count for count in counts if count >= max(start, 1)]
+    """Whether counts that part the changes show that no lesser end would do."""
+    behind = [count for count in counts if count >= start]
     if end == 0:
         return has_multiple(behind, rings)
     return all([has_multiple(behind, end // prime) for prime in prime_factors(end)])

@@ -15,8 +15,3 @@ def prime_factors(number):
     if left > 1:
         found.append(left)
     return found
-
-
-def is_prime_power(number):
-    """Whether a number from 1 on is a power of a prime, but not 1."""
-    return len(prime_factors(number)) == 1

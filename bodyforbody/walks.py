@@ -34,7 +34,8 @@ def ways_to(goal, lengths, count):
 
 def hanging(counts, count):
     """The positions that hang with the count."""
-    return tuple(sorted(ways_to(count, lengths_up_to(counts, count), count).keys()))
+    ways = ways_to(count, lengths_up_to(counts, count), count)
+    return tuple(sorted(ways.keys()))
 
 
 def walk(counts, count):

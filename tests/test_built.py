@@ -163,6 +163,14 @@ class SideBySide(Case):
         wanted = [n for n in range(30) if n % 6 == 0 and has(agreeing(SHIFT, (0,), (1,)), n)]
         self.told(wanted, plain_members(agreeing(machine, (0,), (1,)), 29))
 
+    def test_what_is_told_is_not_changed(self):
+        one = Machine(2, [(1, 0), (1, 1)])
+        sequence = [one, one]
+        machine = side_by_side(sequence)
+        sequence.pop()
+        self.told((((1, 0), (1, 1)), 4), (one.steps, machine.states))
+        self.assertEqual([one], sequence)
+
     def test_other_commands(self):
         one, other = Machine(1, [(0,)]), Machine(2, [(0, 0)])
         self.refused(Refused, 1, side_by_side, (one, other))

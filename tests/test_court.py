@@ -76,6 +76,19 @@ class Agreeing(Case):
             row = agreeing(machine, one, other)
             self.told(plain_agreeing(machine, one, other, 300), plain_members(row, 299))
 
+    def test_settled_before_the_reach(self):
+        machine = Machine(2, [(0, 0), (0, 0), (1, 1), (2, 4), (1, 1)])
+        self.told((((2, 1),), 1), agreeing(machine, (0,), (1,)))
+        self.told((3, 2), (reach(machine, (0,), (1,)), settles(machine, (0,), (1,))))
+
+    def test_settled_at_the_reach_only(self):
+        chain = [(max(state - 1, 0), max(state - 2, 0)) for state in range(5)]
+        for length in (2, 4):
+            ring_steps = [(5 + (at + 1) % length,) * 2 for at in range(length)]
+            machine = Machine(2, chain + ring_steps)
+            self.told((((4, 1),), 1), agreeing(machine, (0,), (1,)))
+            self.told((4, 4), (reach(machine, (0,), (1,)), settles(machine, (0,), (1,))))
+
     def test_the_first_row_ahead_of_the_second(self):
         for call in (agreeing, reach, settles):
             self.refused(InvalidRow, 2, call, SHIFT, (0, 0, 2), (2,))

@@ -87,6 +87,15 @@ class Walks(Case):
             self.refused(InvalidQuestion, 0, walk, value, 5)
             self.refused(InvalidQuestion, 0, is_walk, value, 5, None)
 
+    def test_counts_are_not_changed(self):
+        counts = [8, 0, 5, 8]
+        places = hanging(counts, 9)
+        walk(counts, 9)
+        is_walk(counts, 9, (9, 0))
+        self.told([8, 0, 5, 8], counts)
+        counts.append(9)
+        self.told((1, 4, 6, 9), places)
+
     def test_by_name(self):
         self.told((1, 4, 6, 9), hanging(count=9, counts=[5, 8]))
         self.told((6, 1, 5, 0), walk(count=6, counts=[4, 5]))
