@@ -33,10 +33,10 @@ def is_ascending(values):
     return all([low < high for low, high in zip(values, values[1:])])
 
 
-def checked_counts(value):
-    """Any value, a sequence of numbers, as a tuple."""
+def checked_counts(value, at=0):
+    """Any value, a sequence of numbers, as a tuple; `at` is the number of the argument."""
     if not is_sequence(value) or not are_numbers(value):
-        raise InvalidQuestion(0)
+        raise InvalidQuestion(at)
     return tuple(value)
 
 

@@ -43,10 +43,10 @@ def loses(change):
     return len(set(told)) < len(told)
 
 
-def power(change, count):
-    """The change done so many times."""
-    doubled = checked_alone(change)
-    done = idle_change(len(doubled))
+def done_times(change, count):
+    """What a change does, done so many times."""
+    doubled = change
+    done = idle_change(len(change))
     left = count
     while left > 0:
         if left & 1:
@@ -54,6 +54,11 @@ def power(change, count):
         doubled = done_after(doubled, doubled)
         left = left >> 1
     return done
+
+
+def power(change, count):
+    """The change done so many times."""
+    return done_times(checked_alone(change), count)
 
 
 def lasting_states(change):
@@ -98,12 +103,33 @@ def ring(change):
     return tail_and_ring(change)[1]
 
 
+def latest_tail(changes):
+    """The count from on which the powers of all these changes come again."""
+    return max([tail(change) for change in changes])
+
+
+def shared_ring(changes):
+    """The least number from 1 on that the rings of all these changes divide."""
+    common = 1
+    for change in changes:
+        common = lcm(common, ring(change))
+    return common
+
+
 def least_count(change, count):
     """The least count with the same power as this one."""
     before, common = tail_and_ring(change)
     if count < before:
         return count
     return before + (count - before) % common
+
+
+def first_unlike(change, other):
+    """The first state that two changes lead to unlike ones, `None` without any."""
+    for state, (end, other_end) in enumerate(zip(change, other)):
+        if end != other_end:
+            return state
+    return None
 
 
 def change_of(machine, row):

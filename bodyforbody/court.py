@@ -1,58 +1,20 @@
 """At which counts two bodies agree, on one machine."""
 
-from math import lcm
-
-from bodyforbody.basics import are_numbers, is_tuple_of, rounded_up
-from bodyforbody.changes import change_of, done_after, power, ring, tail
-from bodyforbody.falling import falling_from, runs_sum
-from bodyforbody.primes import prime_factors
+from bodyforbody.basics import are_numbers, is_tuple_of
+from bodyforbody.changes import change_of, done_times, first_unlike, latest_tail, shared_ring
+from bodyforbody.falling import runs_sum
+from bodyforbody.settled import settled_row
 
 
 def alike_at(first, second, count):
     """Whether two changes, done so many times, are the same."""
-    return power(first, count) == power(second, count)
-
-
-def common_ring(first, second):
-    """The least number from 1 on that both rings divide."""
-    return lcm(ring(first), ring(second))
-
-
-def later_tail(first, second):
-    """The count from on which the powers of both changes come again."""
-    return max(tail(first), tail(second))
-
-
-def common_end(first, second):
-    """The least number at whose multiples, from the reach on, both changes agree; 0 if they do at none."""
-    start = later_tail(first, second)
-    rings = common_ring(first, second)
-    far = rounded_up(start, rings)
-    if not alike_at(first, second, far):
-        return 0
-    end = rings
-    for prime in prime_factors(rings):
-        # From the reach on only what both rings leave of a count matters.
-        while end % prime == 0 and alike_at(first, second, far + end // prime):
-            end = end // prime
-    return end
+    return done_times(first, count) == done_times(second, count)
 
 
 def agreeing_changes(first, second):
     """The falling row of the set of all counts at which two changes agree."""
-    start = later_tail(first, second)
-    end = common_end(first, second)
-    if end == 0:
-        return (), 0
-    members = [0]
-    one, other = first, second
-    for count in range(1, start):
-        if one == other:
-            members.append(count)
-        one = done_after(one, first)
-        other = done_after(other, second)
-    members.append(rounded_up(max(start, 1), end))
-    return falling_from(members, end)
+    pair = (first, second)
+    return settled_row(latest_tail(pair), shared_ring(pair), lambda count: alike_at(first, second, count))
 
 
 def agreeing(machine, one, other):
@@ -63,10 +25,12 @@ def agreeing(machine, one, other):
 
 def first_fault(first, second, count):
     """The first state that two changes, done so many times, lead to unlike ends, and these; `None` without any."""
-    for state, (end, other_end) in enumerate(zip(power(first, count), power(second, count))):
-        if end != other_end:
-            return state, end, other_end
-    return None
+    ends = done_times(first, count)
+    other_ends = done_times(second, count)
+    state = first_unlike(ends, other_ends)
+    if state is None:
+        return None
+    return state, ends[state], other_ends[state]
 
 
 def loop_fault(machine, one, other, count):
@@ -84,13 +48,13 @@ def is_loop_fault(machine, one, other, count, value):
     state, end, other_end = value
     if state >= machine.states or end == other_end:
         return False
-    return power(first, count)[state] == end and power(second, count)[state] == other_end
+    return done_times(first, count)[state] == end and done_times(second, count)[state] == other_end
 
 
 def reach(machine, one, other):
     """The greater one of the tails of both rows' changes."""
     first = change_of(machine, one)
-    return later_tail(first, change_of(machine, other))
+    return latest_tail((first, change_of(machine, other)))
 
 
 def settles(machine, one, other):

@@ -39,10 +39,10 @@ def is_falling(value):
     return all([tells(runs[at + 1:], end, run[0]) for at, run in enumerate(runs)])
 
 
-def checked_falling(value):
-    """Any value, a falling row, as it is."""
+def checked_falling(value, at=0):
+    """Any value, a falling row, as it is; `at` is the number of the argument."""
     if not is_falling(value):
-        raise InvalidQuestion(0)
+        raise InvalidQuestion(at)
     return value
 
 

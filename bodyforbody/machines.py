@@ -39,3 +39,8 @@ def checked_row(machine, value):
         if not is_number_below(command, machine.commands):
             raise InvalidRow(index)
     return tuple(value)
+
+
+def is_row(machine, value):
+    """Whether any value is a tuple of commands of the machine."""
+    return isinstance(value, tuple) and all([is_number_below(command, machine.commands) for command in value])

@@ -1,9 +1,9 @@
 """Papers: a few counts that show at which counts two bodies agree."""
 
 from bodyforbody.basics import are_numbers, is_ascending, is_tuple_of, rounded_up
-from bodyforbody.changes import change_of, power
+from bodyforbody.changes import change_of, latest_tail, power, shared_ring
 from bodyforbody.closing import tellers
-from bodyforbody.court import agreeing_changes, alike_at, common_ring, first_fault, later_tail
+from bodyforbody.court import agreeing_changes, alike_at, first_fault
 from bodyforbody.falling import has, is_falling, runs_sum
 from bodyforbody.primes import prime_factors
 
@@ -25,8 +25,8 @@ def court_paper(machine, one, other):
     first = change_of(machine, one)
     second = change_of(machine, other)
     falling = agreeing_changes(first, second)
-    start = later_tail(first, second)
-    counts = counts_below(falling, start) + counts_behind(falling[1], start, common_ring(first, second))
+    start = latest_tail((first, second))
+    counts = counts_below(falling, start) + counts_behind(falling[1], start, shared_ring((first, second)))
     return falling, tuple([(count, first_fault(first, second, count)[0]) for count in counts])
 
 
@@ -65,8 +65,8 @@ def is_court_paper(machine, one, other, value):
         return False
     falling, pairs = value
     end = falling[1]
-    start = later_tail(first, second)
-    rings = common_ring(first, second)
+    start = latest_tail((first, second))
+    rings = shared_ring((first, second))
     # Facts [16] and [17]: another end has no paper. Of this one the primes are small, and so are soon found.
     if end > 0 and (rings % end != 0 or runs_sum(falling) > rounded_up(start, end)):
         return False

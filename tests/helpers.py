@@ -3,6 +3,7 @@
 import unittest
 from random import Random
 
+from bodyforbody.falling import is_falling, next_member
 from bodyforbody.machines import Machine
 
 NO_NUMBERS = (True, False, -1, 1.0, "1", None, (1,), [1], b"1")
@@ -12,6 +13,18 @@ NO_FALLINGS = (None, 7, (), [(), 1], ((), True), ((), False), ((), -1), ((), 1, 
                (((3, -1),), 1), (([3, 1],), 1), (((3, 1, 1),), 1), (((3, 1), (3, 1)), 1), (((2, 1), (3, 1)), 1),
                (((5, 1), (4, 1), (3, 1)), 1), ((3, 1), 1), "ab", (((3.0, 1),), 1), ((), None))
 NO_COUNTS = NO_SEQUENCES + ((True,), [False], (1, -1), [2, "3"], (1.0,), ((),), (None,), [[1]])
+# For a machine of four states.
+NO_ROOMS = (None, 0, "0", (), [], [0], {0: 1}, (4,), (-1,), (0, 4), (1, 0), (0, 0), (0, 1, 1), (True,), (0, True),
+            (False, 1), (0.0,), ("0",), ((0,),), (None,), range(2), b"\x00", (0, 10 ** 30))
+NO_VIEWS = (None, 0, "0123", (), [], [0, 0, 1, 1], (0, 0, 1), (0, 0, 1, 1, 1), (0, 0, 1, 4), (0, 0, 1, -1),
+            (0, 0, 1, True), (False, 1, 2, 3), (0, 0, 1, 1.0), (0, 0, 1, None), ((0,), 0, 1, 1),
+            {0: 0, 1: 0, 2: 1, 3: 1}, range(4), b"\x00" * 4)
+NO_ROUNDS = (None, 5, "abc", (), [0, 1, (0,)], (0, 1, [0]), (0, 1), (0, 1, (0,), 0), (0, 0, ()), (0, 0, (0,)),
+             (5, 0, (0,)), (-1, 2, (0,)), (0, -1, ()), (True, 1, (0,)), (False, 1, (0,)), (0, True, (0,)),
+             (0.0, 1, (0,)), (0, 1.0, (0,)), (0, 1, (1,)), (0, 1, (True,)), (0, 1, (False,)), (0, 2, (1, 0)),
+             (0, 2, (0, 0)), (0, 2, (-1, 0)), (0, 2, (0, 2)), (1, 2, (0, 3)), (0, 2, (0.0, 1)), (0, 2, ("0",)),
+             (0, 2, None), (0, 2, 0), (0, 2, ((0,),)), ((), 1, (0,)), (0, 2, {0: 1}), (0, None, (0,)),
+             (0, 2, (0, True)))
 SHIFT = Machine(2, [(0, 0), (0, 1), (1, 1), (2, 0)])
 LONG = 10 ** 30 - 1
 
@@ -101,6 +114,32 @@ def rows_of_sum(total, end=1):
     return found
 
 
+def partitions(total, most):
+    """All falling lots of numbers from 2 to `most` that sum up to the total."""
+    if total == 0:
+        return [()]
+    return [(step,) + rest for step in range(2, min(total, most) + 1) for rest in partitions(total - step, step)]
+
+
+def low_rows(height, end=1):
+    """All falling rows with this end whose runs add so much at most, ascending, tried one by one."""
+    lots = [lot for total in range(height // end + 1) for lot in partitions(total, total)]
+    rows = [(runs_of([step * end for step in lot]), end) for lot in lots]
+    return sorted([row for row in rows if is_falling(row)])
+
+
+def steep_row(seed, many, end=1):
+    """A falling row of so many runs, if none of its steps would have more than 30 digits."""
+    numbers = some(seed)
+    runs = ()
+    while len(runs) < many:
+        step = next_member((runs, end), (runs[0][0] if runs else end) + 1 + numbers.randrange(2))
+        if step >= LONG:
+            break
+        runs = ((step, numbers.choice((1, 1, 1, 2))),) + runs
+    return runs, end
+
+
 def plain_power(change, count):
     """The change done so many times, one by one."""
     places = tuple(range(len(change)))
@@ -140,3 +179,52 @@ def rings_machine(one, other):
             column.extend([base + (at + 1) % length for at in range(length)])
         columns.append(column)
     return Machine(2, list(zip(*columns)))
+
+
+def plain_shown(machine, most=200):
+    """The changes of all rows, found by doing commands behind what is there; too many of them are not gone through."""
+    found = {tuple(range(machine.states))}
+    while True:
+        more = found | {tuple(column[state] for state in change) for change in found for column in zip(*machine.steps)}
+        if more == found or len(found) > most:
+            return sorted(found)
+        found = more
+
+
+def few_changes(seed, many, most=60, states=5):
+    """Some machines with one to three commands that show at most so many changes; some of them lose nothing."""
+    numbers = some(seed)
+    while many > 0:
+        size = numbers.randint(1, states)
+        columns = []
+        for _ in range(numbers.randint(1, 3)):
+            kind = numbers.randrange(3)
+            if kind == 0:
+                columns.append(numbers.sample(range(size), size))
+            elif kind == 1:
+                columns.append([numbers.randrange(size) for _ in range(size)])
+            else:
+                columns.append([min(size - 1, state + numbers.randrange(2)) for state in range(size)])
+        machine = Machine(len(columns), list(zip(*columns)))
+        if len(plain_shown(machine, most)) <= most:
+            many -= 1
+            yield machine
+
+
+def turned_machine():
+    """40 states, 6 commands, 100 changes: a ring of 25 is turned or reversed, 2 other states change places or do not."""
+    turned = [(at + 1) % 25 for at in range(25)]
+    reversed_ring = [-at % 25 for at in range(25)]
+    idle = list(range(25))
+    rest = list(range(27, 40))
+    pairs = ((turned, [25, 26]), (reversed_ring, [25, 26]), (idle, [26, 25]), (turned, [26, 25]),
+             (reversed_ring, [26, 25]), (idle, [25, 26]))
+    return Machine(6, list(zip(*[ring + pair + rest for ring, pair in pairs])))
+
+
+CHAIN = Machine(2, [(1, 5), (5, 2), (3, 5), (5, 4), (5, 5), (5, 5)])
+SIX = Machine(2, [(1, 0), (0, 2), (2, 1)])
+IDLE = Machine(3, [(0, 0, 0), (1, 1, 1)])
+# These show 100 changes each, too.
+HUNDRED = (turned_machine(), rings_machine((10,) + (1,) * 10, (1,) * 10 + (10,)),
+           Machine(2, [(5, 7), (0, 3), (6, 5), (3, 3), (0, 5), (7, 4), (6, 3), (6, 1)]))

@@ -1,16 +1,30 @@
 """The examples of the document, with the very answers that it prints."""
 
+from bodyforbody import seen
+from bodyforbody.asking import learned, next_question, possible_rows
 from bodyforbody.beginnings import beginning, is_beginning
 from bodyforbody.built import is_against, machine_against, marked_machine, set_machine, set_marks
+from bodyforbody.carried import carried, carry_fault
 from bodyforbody.changes import change_of, least_count, loop_end, loses, power, ring, same_loops, tail
 from bodyforbody.closing import closing, is_derivation, tellers
+from bodyforbody.counted import how_many
 from bodyforbody.court import agreeing, is_loop_fault, loop_fault, reach, settles
 from bodyforbody.falling import has, member_at, members_between, next_member
+from bodyforbody.following import follows, is_least_lot, is_weaker, parting
+from bodyforbody.joined import both, is_part, together
 from bodyforbody.marks import fitting
+from bodyforbody.middles import middle, middle_counts
+from bodyforbody.orders import is_order_fault, moves, orders
 from bodyforbody.papers import is_court_paper
 from bodyforbody.repeats import repeated, repeated_by
+from bodyforbody.rooms import crossed, holds_room, least_room, least_view
+from bodyforbody.rounds import breach, round_falling, round_has, tidy
+from bodyforbody.seen import seen_round
+from bodyforbody.tellings import sureness
+from bodyforbody.trees import filled, greatest_gap, next_rows, without
+from bodyforbody.turns import is_turn_fault, shown, turn_fault, turns
 from bodyforbody.walks import hanging, walk
-from tests.helpers import SHIFT, Case
+from tests.helpers import CHAIN, SHIFT, SIX, Case
 
 
 class Chapter3(Case):
@@ -75,3 +89,66 @@ class Chapter6(Case):
     def test_sets(self):
         self.told((((1, 4, 6, 9),), True),
                   (set_marks((((5, 1), (3, 1), (2, 1)), 1)), is_against((5, 8), 9, machine_against((5, 8), 9))))
+
+
+class Chapter7(Case):
+    def test_what_follows(self):
+        self.told((False, True, 9, True, True),
+                  (follows((5, 8), 9), follows((5, 8), 11), parting((5, 8), (5, 8, 9)), is_weaker((10, 15), (5,)),
+                   is_least_lot((6, 10, 4, 15), 22, (0, 1))))
+
+    def test_tellings(self):
+        self.told(((((), 2), ((), 6), (((2, 2),), 1), (((4, 1),), 1), (((4, 1),), 2)), None, None),
+                  (possible_rows((6,), (3,), 4), sureness((6,), (3,), 9), sureness((6,), (3,), 8)))
+
+    def test_asking(self):
+        self.told((2, (((), 2), ((2, True), (3, False), (5, False)))),
+                  (next_question((4,), (), 4), learned(lambda count: count % 2 == 0, 4, 4)))
+
+
+class Chapter8(Case):
+    def test_two_sets(self):
+        self.told(((((6, 1),), 3), (((4, 1),), 2), True, (((4, 1), (2, 1)), 1)),
+                  (both((((4, 1),), 1), ((), 3)), together(((), 6), (((4, 1),), 2)), is_part(((), 6), ((), 3)),
+                   without((((4, 1),), 1), 5)))
+
+    def test_neighbours_and_how_many(self):
+        row = (((5, 1), (3, 1), (2, 1)), 1)
+        self.told((9, (((5, 1), (3, 1)), 1), ((((2, 1),), 1),), 17),
+                  (greatest_gap(row), filled(row), next_rows(((), 1)), how_many(12)))
+
+
+class Chapter9(Case):
+    def test_a_chain(self):
+        self.told((9, (((3, 1),), 1), True, None, (((2, 1),), 1)),
+                  (len(shown(CHAIN)), turns(CHAIN), is_turn_fault(CHAIN, 2, ((0,), (1,), 0)), turn_fault(CHAIN, 3),
+                   middle_counts(CHAIN)))
+
+    def test_all_orders_of_three_states(self):
+        self.told((((), 6), ((), 6), ((0, 1, 2),), ((), 1), ((), 3)),
+                  (turns(SIX), orders(SIX), middle(SIX), carried(SIX, (0, 1), (0,), (1, 0)),
+                   carried(SIX, (0, 1), (1, 0, 1), (0, 1))))
+
+    def test_faults_and_moves(self):
+        self.told((True, None, None),
+                  (is_order_fault(SIX, 1, ((0, 0, 1), (0, 1, 0), 0)), moves((5, 7), (7, 7)),
+                   carry_fault(CHAIN, (0,), (1,), (1,), 10 ** 20)))
+
+
+class Chapter10(Case):
+    def test_rooms_and_views(self):
+        self.told(((0, 1, 2), (0, 0, 2, 3), True),
+                  (least_room(SHIFT, (2,), (0,)), least_view(SHIFT, (0, 0, 1, 1), (0,)),
+                   holds_room(SHIFT, (1, 2), (1,))))
+
+    def test_rounds(self):
+        self.told(((2, 1, (0, 1)), (0, 1), (3, 2, (0, 4))),
+                  (seen_round(SHIFT, (2,), (0, 1, 2, 3), (0,), (1,)), breach((2, 1, (0, 1))), tidy((3, 4, (0, 4, 6)))))
+        self.told((True, (((4, 1),), 2), True),
+                  (crossed(SHIFT, (1, 2), (0, 0, 2, 3), (0,), (1,)), round_falling((4, 2, (0, 4))),
+                   round_has((3, 2, (0, 4)), 10 ** 20)))
+
+    def test_what_is_shown(self):
+        machine, room, view = seen.shown((2, 1, (0, 1)), 1)
+        self.told((True, (2, 1, (0, 1))),
+                  (room == tuple(range(machine.states)), seen_round(machine, room, view, (0,), (1,))))

@@ -24,6 +24,22 @@ INTERFACE = {
     "walks": "hanging(counts,count) walk(counts,count) is_walk(counts,count,value) "
              "both_loops(machine,one,other,times,others)",
     "marks": "fits(mark,count) fitting(mark) mark_for(counts,count)",
+    "following": "follows(counts,count) is_weaker(one,other) parting(one,other) is_least_lot(counts,count,value) "
+                 "least_lot(counts,count)",
+    "tellings": "is_possible(yes,no) sureness(yes,no,count)",
+    "asking": "possible_rows(yes,no,height) next_question(yes,no,height) learned(ask,count,height)",
+    "joined": "is_part(one,other) both(one,other) together(one,other)",
+    "trees": "without(falling,count) one_less(falling) greatest_gap(falling) filled(falling) path(falling) "
+             "next_rows(falling)",
+    "counted": "how_many(total) row_at(total,index) index_of(falling)",
+    "turns": "shown(machine) turns(machine) turn_fault(machine,count) is_turn_fault(machine,count,value)",
+    "orders": "orders(machine) order_fault(machine,count) is_order_fault(machine,count,value) moves(one,other)",
+    "carried": "carried(machine,one,row,other) carry_fault(machine,one,row,other,count)",
+    "middles": "middle(machine) middle_counts(machine)",
+    "rooms": "holds_room(machine,room,row) least_room(machine,room,row) holds_view(machine,view,row) "
+             "least_view(machine,view,row) crossed(machine,room,view,one,other)",
+    "rounds": "round_has(value,count) tidy(value) breach(value) round_falling(value)",
+    "seen": "seen_alike(machine,room,view,one,other,count) seen_round(machine,room,view,one,other) shown(value,kind)",
     "built": "marked_machine(mark) machine_against(counts,count) is_against(counts,count,value) side_by_side(machines) "
              "set_marks(falling) set_machine(falling)",
 }
