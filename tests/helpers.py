@@ -1,6 +1,7 @@
 """What several tests need: refusals, plain counterparts of the package, machines to try."""
 
 import unittest
+from itertools import product
 from random import Random
 
 from bodyforbody.falling import is_falling, next_member
@@ -25,6 +26,19 @@ NO_ROUNDS = (None, 5, "abc", (), [0, 1, (0,)], (0, 1, [0]), (0, 1), (0, 1, (0,),
              (0, 2, (0, 0)), (0, 2, (-1, 0)), (0, 2, (0, 2)), (1, 2, (0, 3)), (0, 2, (0.0, 1)), (0, 2, ("0",)),
              (0, 2, None), (0, 2, 0), (0, 2, ((0,),)), ((), 1, (0,)), (0, 2, {0: 1}), (0, None, (0,)),
              (0, 2, (0, True)))
+NO_NESTS = (None, 7, 0, "n", "", [], [0], (1,), (True,), (False,), (0.0,), ("0",), (None,), ((),), (0, ()),
+            (("n",),), (("n", ()), 1), (("n", (), 0),), (["n", (0,)],), (("n", [0]),), (("n", 0),), (("n", "n"),),
+            (("n", None),), (("i", (0,)),), (("i", ()),), (("k", (0,)),), (("nm", (0,)),), (("", (0,)),),
+            (("N", (0,)),), ((True, (0,)),), ((False, (0,)),), ((-1, (0,)),), ((1.0, (0,)),), ((None, (0,)),),
+            ((("n",), (0,)),), ((b"n", (0,)),), (("n", (("n", (False,)),)),), (("n", (("n", [])),),), {0: 0},
+            (("n", (("j", (0,)),)),), (0, 0, ("i", (0,))), ("n", (0,)), (("n", (0, ("i", [0]))),), {0}, b"\x00",
+            (("n", (0,)), ("i", (("n", (0,)),))), range(1))
+NO_KNOWNS = (None, 5, "abc", (), [0, 1, None], (0, 1), (0, 1, None, 0), (0, 0, None), (0, -1, None), (-1, 1, None),
+             (True, 1, None), (False, 1, None), (0, True, None), (0, 1, True), (0, 1, False), (0, 1, -1), (0, 1, "0"),
+             (0.0, 1, None), (0, 1.0, None), (0, 1, 0.0), (None, 1, 0), (0, None, 0), (0, 1, ()), ((0,), 1, None),
+             {0: 1}, {0, 1}, range(3), b"\x00\x01\x02", (0, "1", None))
+NO_MIXES = (None, 5, "012", [], [0, 1], {0: 1}, {0, 1}, range(2), b"\x00", (8,), (0, 8), (-1,), (True,), (False,),
+            (0, True, 1), (0.0,), ("0",), (None,), ((0,),), (0, 10 ** 30), True)
 SHIFT = Machine(2, [(0, 0), (0, 1), (1, 1), (2, 0)])
 LONG = 10 ** 30 - 1
 
@@ -228,3 +242,71 @@ IDLE = Machine(3, [(0, 0, 0), (1, 1, 1)])
 # These show 100 changes each, too.
 HUNDRED = (turned_machine(), rings_machine((10,) + (1,) * 10, (1,) * 10 + (10,)),
            Machine(2, [(5, 7), (0, 3), (6, 5), (3, 3), (0, 5), (7, 4), (6, 3), (6, 1)]))
+
+
+def plain_times(nest, n, m, ended=None):
+    """How often a nest does its body, counted round by round."""
+    total = 0
+    for part in nest:
+        if part == 0:
+            total += 1
+            continue
+        rounds = {"n": n, "m": m, "i": ended}.get(part[0], part[0])
+        total += sum(plain_times(part[1], n, m, ended=at) for at in range(rounds))
+    return total
+
+
+def some_nest(numbers, deep, inside=False):
+    """A nest of few parts, with loops of all kinds in one another."""
+    parts = []
+    for _ in range(numbers.choice((0, 1, 1, 1, 2, 2, 3))):
+        if deep == 0 or numbers.randrange(3) == 0:
+            parts.append(0)
+        else:
+            kinds = ("n", "n", "m", "i", "i", 0, 1, 2, 3) if inside else ("n", "n", "m", 0, 1, 2, 3)
+            parts.append((numbers.choice(kinds), some_nest(numbers, deep - 1, True)))
+    return tuple(parts)
+
+
+def random_row(numbers, end, many=3, spare=4):
+    """A falling row with so many runs at most and this end, from 1 on."""
+    runs = ()
+    for _ in range(numbers.randrange(many + 1)):
+        step = next_member((runs, end), (runs[0][0] if runs else end) + 1 + numbers.randrange(spare) * end)
+        runs = ((step, numbers.choice((1, 1, 2, 3))),) + runs
+    return runs, end
+
+
+def mixes_of(bodies, length):
+    """All mixes of this length, ascending."""
+    return list(product(range(bodies), repeat=length))
+
+
+def exchanged(mix, ways):
+    """All mixes that one exchange of a told block makes of a mix; ways are triples (letter, other letter, count)."""
+    for letter, other, count in ways:
+        for at in range(len(mix) - count + 1):
+            if count > 0 and mix[at:at + count] == (letter,) * count:
+                yield mix[:at] + (other,) * count + mix[at + count:]
+
+
+def plain_lots(mixes, ways):
+    """The mixes, those that are led to one another by exchanges put in one lot."""
+    lots, found = [], set()
+    for mix in mixes:
+        if mix in found:
+            continue
+        lot, todo = {mix}, [mix]
+        while todo:
+            new = [other for other in exchanged(todo.pop(), ways) if other not in lot]
+            lot.update(new)
+            todo.extend(new)
+        lots.append(sorted(lot))
+        found |= lot
+    return lots
+
+
+def ways_of(falling, bodies, length):
+    """The exchanges of all blocks up to this length that the set of a falling row tells."""
+    counts = [count for count in plain_members(falling, length) if count > 0]
+    return [way for way in product(range(bodies), range(bodies), counts) if way[0] != way[1]]

@@ -9,17 +9,23 @@ from bodyforbody.changes import change_of, least_count, loop_end, loses, power, 
 from bodyforbody.closing import closing, is_derivation, tellers
 from bodyforbody.counted import how_many
 from bodyforbody.court import agreeing, is_loop_fault, loop_fault, reach, settles
+from bodyforbody.exchanging import exchanges, is_exchanges
 from bodyforbody.falling import has, member_at, members_between, next_member
 from bodyforbody.following import follows, is_least_lot, is_weaker, parting
 from bodyforbody.joined import both, is_part, together
+from bodyforbody.knowns import both_known
 from bodyforbody.marks import fitting
 from bodyforbody.middles import middle, middle_counts
+from bodyforbody.mixcounts import kinds, short_runs
+from bodyforbody.mixes import leftover, surely_alike, surely_pure
+from bodyforbody.nests import body_times, degrees, nest_agrees, nest_closing, nest_fault, nest_tests, sure_from
 from bodyforbody.orders import is_order_fault, moves, orders
 from bodyforbody.papers import is_court_paper
 from bodyforbody.repeats import repeated, repeated_by
 from bodyforbody.rooms import crossed, holds_room, least_room, least_view
 from bodyforbody.rounds import breach, round_falling, round_has, tidy
 from bodyforbody.seen import seen_round
+from bodyforbody.spreads import spread
 from bodyforbody.tellings import sureness
 from bodyforbody.trees import filled, greatest_gap, next_rows, without
 from bodyforbody.turns import is_turn_fault, shown, turn_fault, turns
@@ -152,3 +158,41 @@ class Chapter10(Case):
         machine, room, view = seen.shown((2, 1, (0, 1)), 1)
         self.told((True, (2, 1, (0, 1))),
                   (room == tuple(range(machine.states)), seen_round(machine, room, view, (0,), (1,))))
+
+
+class Chapter11(Case):
+    SQUARE, STAIRS = (("n", (("n", (0,)),)),), (("n", (("i", (0,)),)),)
+
+    def test_nests(self):
+        self.told((10, (2, 0), (6, 12, 1)),
+                  (body_times(self.STAIRS, 5, 0), degrees(self.STAIRS), both_known((2, 4, None), (0, 6, 3))))
+        self.told(((2, 0), 3), (nest_fault(SHIFT, (0,), (0, 0), self.STAIRS, (0, 1, None), (0, 1, 0)),
+                                sure_from(SHIFT, (0,), (0, 0), self.STAIRS, 0)))
+
+    def test_fewest_tests_and_spreads(self):
+        self.told(((((4, 2),), 1), ((2, 0), (3, 0))),
+                  (nest_closing(self.SQUARE, (2, 1, None), (0, 1, 0)), nest_tests(self.SQUARE, (2, 1, None), (0, 1, 0))))
+        self.told(((1, (((3, 1),), 1)), True),
+                  (spread((((5, 1), (3, 1), (2, 1)), 1), 2, 3),
+                   nest_agrees(SHIFT, (0,), (0, 0), self.SQUARE, 10 ** 9, 0)))
+
+    def test_what_is_said_of_knowns(self):
+        self.told((7, 1, 5), both_known((5, 1, None), (7, 1, 5)))
+        self.told((11, 8, None), both_known((3, 8, None), (5, 1, None)))
+
+
+class Chapter12(Case):
+    SOME = (((3, 1), (2, 1)), 1)
+
+    def test_mixes(self):
+        self.told(((6, ()), (0, (0, 0, 1, 1, 0, 0)), False),
+                  (leftover(self.SOME, (0, 1, 1, 1, 0, 1)), leftover(self.SOME, (0, 0, 1, 1, 0, 0)),
+                   surely_alike(self.SOME, (0, 1, 1, 1), (1, 0, 0, 0))))
+
+    def test_kinds(self):
+        self.told((True, 12, 10, 1), (surely_pure(self.SOME, (0, 0, 0, 0, 1, 1)), kinds(self.SOME, 2, 4),
+                                      short_runs(2, 4, 2), kinds(((), 1), 2, 100)))
+
+    def test_exchanges(self):
+        self.told((True, None), (is_exchanges(((), 2), (0, 1, 1), (1, 1, 0), ((1, 2, 0), (0, 2, 1))),
+                                 exchanges(((), 2), (0, 1), (1, 0))))

@@ -42,6 +42,15 @@ INTERFACE = {
     "seen": "seen_alike(machine,room,view,one,other,count) seen_round(machine,room,view,one,other) shown(value,kind)",
     "built": "marked_machine(mark) machine_against(counts,count) is_against(counts,count,value) side_by_side(machines) "
              "set_marks(falling) set_machine(falling)",
+    "nests": "body_times(nest,n,m) degrees(nest) nest_agrees(machine,one,other,nest,n,m) "
+             "nest_fault(machine,one,other,nest,known,other_known) sure_from(machine,one,other,nest,m) "
+             "nest_closing(nest,known,other_known) nest_tests(nest,known,other_known)",
+    "knowns": "both_known(one,other)",
+    "spreads": "spread(falling,times,plus)",
+    "mixes": "leftover(falling,mix) surely_alike(falling,one,other) surely_pure(falling,mix)",
+    "mixcounts": "kinds(falling,bodies,length) short_runs(bodies,length,most)",
+    "exchanging": "exchanges(falling,one,other) is_exchanges(falling,one,other,value)",
+    "mixers": "mixer(falling,bodies,length)",
 }
 
 

@@ -150,7 +150,8 @@ class Names(unittest.TestCase):
                     self.assertIsInstance(node, ast.FunctionDef, f"L8 {where}")
                     continue
                 self.assertRegex(word, r"^(_|_?[A-Za-z][A-Za-z0-9_]*)$", f"L12 {where}")
-                self.assertFalse(hasattr(builtins, word), f"L15 {where}")
+                # A doctest leaves its last answer among the builtins, as `_`.
+                self.assertFalse(word != "_" and hasattr(builtins, word), f"L15 {where}")
                 self.assertNotIn(word, NO_NAMES, f"L17 {where}")
                 self.assertNotIn(word, imported, f"L15 {where}")
 
