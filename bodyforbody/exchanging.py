@@ -57,7 +57,7 @@ def is_exchange(mix, value):
     if not is_tuple_of(value, 3) or not are_numbers(value):
         return False
     at, count, letter = value
-    return count > 0 and is_number_below(letter, LETTERS) and is_block(mix, at, count)
+    return is_number_below(letter, LETTERS) and is_block(mix, at, count)
 
 
 def is_exchanges(falling, one, other, value):

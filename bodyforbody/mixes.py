@@ -31,12 +31,12 @@ def first_steps(falling, many):
 
 
 def is_block(mix, at, count):
-    """Whether so many letters, from an index on, stand there and are equal."""
+    """Whether from an index on so many letters, one at least, stand in the mix and are equal."""
     return at + count <= len(mix) and len(set(mix[at:at + count])) == 1
 
 
 def block_at(mix, count):
-    """The first index from which on so many letters are equal, `None` without any, or if the count is 0."""
+    """The first index from which on so many letters, one at least, are equal; `None` without any."""
     for at in range(len(mix) - count + 1):
         if is_block(mix, at, count):
             return at

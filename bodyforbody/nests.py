@@ -149,7 +149,7 @@ def nest_fault(machine, one, other, nest, known, other_known):
 
 def is_sure_from(falling, nest, least, m):
     """Whether what the nest does for this m, and for the number `least` or any greater n, is in the set."""
-    counts = [n for n, _ in deciding_pairs(nest, (least, 1, None), (m, 1, 0))]
+    counts = range(least, least + degrees_of(nest)[0] + 1)
     return all([tells(falling[0], falling[1], times_of(nest, n, m)) for n in counts])
 
 

@@ -4,6 +4,7 @@ from bodyforbody.errors import InvalidText
 from bodyforbody.machines import Machine
 
 DIGITS = "0123456789"
+FIGURES = 2
 
 
 def numbers_text(numbers):
@@ -19,16 +20,16 @@ def machine_text(machine):
     return "\n".join(lines)
 
 
-def is_short_number(word):
-    """Whether a word is a number in one or two figures, as it is written."""
-    if len(word) not in (1, 2) or not all([letter in DIGITS for letter in word]):
+def is_plain_number(word, figures):
+    """Whether a word is a number in so many figures at most, as it is written."""
+    if len(word) == 0 or len(word) > figures or not all([letter in DIGITS for letter in word]):
         return False
     return len(word) == 1 or word[0] != "0"
 
 
-def numbers_of(words):
-    """The numbers that the words are, `None` if one is none."""
-    if not all([is_short_number(word) for word in words]):
+def numbers_of(words, figures):
+    """The numbers that the words are, in so many figures at most; `None` if one is none."""
+    if not all([is_plain_number(word, figures) for word in words]):
         return None
     return tuple([int(word) for word in words])
 
@@ -36,7 +37,7 @@ def numbers_of(words):
 def read_sizes(line):
     """The numbers of commands and states that the first line tells."""
     words = line.split(" ")
-    sizes = numbers_of(words[1:])
+    sizes = numbers_of(words[1:], FIGURES)
     if len(words) != 3 or words[0] != "machine" or sizes is None or 0 in sizes:
         raise InvalidText(0)
     return sizes
@@ -44,7 +45,7 @@ def read_sizes(line):
 
 def read_entry(line, at, commands, states):
     """The next states that the line with this index tells."""
-    entry = numbers_of(line.split(" "))
+    entry = numbers_of(line.split(" "), FIGURES)
     if entry is None or len(entry) != commands or max(entry) >= states:
         raise InvalidText(at)
     return entry

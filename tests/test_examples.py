@@ -1,17 +1,20 @@
 """The examples of the document, with the very answers that it prints."""
 
 from bodyforbody import seen
+from bodyforbody.accords import accord_exchanges, alike_mixes, handed_on, is_accord_exchanges
 from bodyforbody.asking import learned, next_question, possible_rows
 from bodyforbody.beginnings import beginning, is_beginning
 from bodyforbody.built import is_against, machine_against, marked_machine, set_machine, set_marks
 from bodyforbody.carried import carried, carry_fault
 from bodyforbody.changes import change_of, least_count, loop_end, loses, power, ring, same_loops, tail
 from bodyforbody.closing import closing, is_derivation, tellers
+from bodyforbody.costs import cheapest, ever_cheapest
 from bodyforbody.counted import how_many
 from bodyforbody.court import agreeing, is_loop_fault, loop_fault, reach, settles
 from bodyforbody.exchanging import exchanges, is_exchanges
 from bodyforbody.falling import has, member_at, members_between, next_member
 from bodyforbody.following import follows, is_least_lot, is_weaker, parting
+from bodyforbody.groups import all_agree, groups
 from bodyforbody.joined import both, is_part, together
 from bodyforbody.knowns import both_known
 from bodyforbody.marks import fitting
@@ -196,3 +199,27 @@ class Chapter12(Case):
     def test_exchanges(self):
         self.told((True, None), (is_exchanges(((), 2), (0, 1, 1), (1, 1, 0), ((1, 2, 0), (0, 2, 1))),
                                  exchanges(((), 2), (0, 1), (1, 0))))
+
+
+class Chapter13(Case):
+    SOME = ((0, 1, 5), (0, 2, 3), (1, 2, 4), (1, 2, 7))
+
+    def test_groups_and_costs(self):
+        self.told((((0,), (1,), (2,)), ((0, 1), (2,)), (((3, 1),), 1)),
+                  (groups(SHIFT, [(0,), (0, 0), (1,)], 2), groups(SHIFT, [(0,), (0, 0), (1,)], 3),
+                   all_agree(SHIFT, [(0,), (0, 0)])))
+        self.told((1, ((0, 1), (1, 3))), (cheapest(SHIFT, [(0, 0), (0,)], [2, 1], 0, 3),
+                                          ever_cheapest(SHIFT, [(0, 0), (0,)], [2, 1], 0)))
+
+    def test_accords(self):
+        self.told((((0, 1, ((), 2)), (0, 2, ((), 6)), (1, 2, ((), 3))), None, ((0, 0, 1), (1, 0, 0), (1, 1, 1))),
+                  (handed_on(3, ((0, 1, 2), (1, 2, 3))), accord_exchanges(3, self.SOME, (0,) * 7, (1,) * 7),
+                   alike_mixes(2, [(0, 1, 2)], (0, 0, 1))))
+        self.told(True, is_accord_exchanges(3, self.SOME, (0,) * 8, (1,) * 8,
+                                            ((0, 5, 1), (5, 3, 2), (1, 4, 2), (1, 7, 1))))
+
+    def test_what_is_not_handed_on(self):
+        mixes = [tuple("abc".index(letter) for letter in word) for word in ("aaaaaaaa", "bbbbbccc", "bccccccc", "bbbbbbbb")]
+        for one, other in zip(mixes, mixes[1:]):
+            self.assertIn(other, alike_mixes(3, self.SOME, one))
+        self.assertIs(False, has(handed_on(3, self.SOME)[0][2], 8))

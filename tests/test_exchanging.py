@@ -98,7 +98,8 @@ class AreExchanges(Case):
     def test_others(self):
         one, other = (0, 0, 0, 0, 1, 2), (3, 3, 3, 3, 1, 2)
         for value in (None, 7, "abc", (), [], [(0, 4, 3)], ([0, 4, 3],), ((0, 4, 3), ()), ((0, 4),), ((0, 4, 3, 0),),
-                      (0, 4, 3), ((0, 4, 8),), ((0, 4, -1),), ((0, 4, True),), ((False, 4, 3),), ((0, 4.0, 3),),
+                      (0, 4, 3), ((0, 4, 8),),
+                      ((0, 4, 8), (0, 4, 3)), ((0, 4, -1),), ((0, 4, True),), ((False, 4, 3),), ((0, 4.0, 3),),
                       ((0, 4, "3"),), ((0, 4, None),), ((None, 4, 3),), ((0, None, 3),), ((6, 4, 3),), ((3, 4, 3),),
                       ((-6, 4, 3),), ((LONG, 4, 3),), ((0, LONG, 3),), ((0, 4, LONG),), ((0, 0, 3),),
                       ((0, 4, 3), (0, 0, 3)), ((0, 4, 3), (6, 0, 3)), ((0, 2, 3), (2, 2, 3)), ((0, 1, 3),) * 4,
@@ -115,6 +116,9 @@ class AreExchanges(Case):
         self.assertIs(True, is_exchanges(((), 2), (0, 1, 1), (0, 0, 0), ((1, 2, 0),)))
         self.assertIs(False, is_exchanges(((), 2), (0, 1, 1), (0, 1, 0), ((2, 2, 0),)))
         self.assertIs(False, is_exchanges(((), 2), (0, 1, 1), (0, 1, 1, 0, 0), ((3, 2, 0),)))
+        # No letters may stand behind the last one.
+        self.assertIs(False, is_exchanges(((), 2), (0, 1), (0, 1, 1), ((1, 2, 1),)))
+        self.assertIs(False, is_exchanges(((), 2), (0, 1), (0, 0, 0), ((1, 2, 0),)))
 
     def test_unlike_lengths(self):
         self.assertIs(False, is_exchanges(((), 1), (0, 0), (0, 0, 0), ((0, 1, 0),)))

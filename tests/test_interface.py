@@ -1,7 +1,9 @@
 """The interface: each name stands in its file, with the told arguments."""
 
 import ast
+import re
 import unittest
+from importlib import import_module
 from pathlib import Path
 
 PACKAGE = Path(__file__).resolve().parent.parent / "bodyforbody"
@@ -51,6 +53,21 @@ INTERFACE = {
     "mixcounts": "kinds(falling,bodies,length) short_runs(bodies,length,most)",
     "exchanging": "exchanges(falling,one,other) is_exchanges(falling,one,other,value)",
     "mixers": "mixer(falling,bodies,length)",
+    "groups": "groups(machine,bodies,count) groups_on(machine,bodies,falling) agreements(machine,bodies) "
+              "all_agree(machine,bodies)",
+    "costs": "cheapest(machine,bodies,costs,at,count) ever_cheapest(machine,bodies,costs,at)",
+    "accords": "handed_on(bodies,accords) alike_mixes(bodies,accords,mix) accord_exchanges(bodies,accords,one,other) "
+               "is_accord_exchanges(bodies,accords,one,other,value)",
+    "partings": "parting_machine(bodies,accords,one,other) is_parting_machine(bodies,accords,one,other,value)",
+    "bench": "Bench(machine)",
+    "sheets": "sheet_holds(value) sheet(name,question) wrong_sheets(values)",
+    "desk": "Desk()",
+}
+
+METHODS = {
+    "bench": "__len__(self) program(self) effect(self) steps(self) put(self,at,count,row) take(self,at) could(self,at,row) "
+             "exchange(self,at,row) undo(self) within(self,work)",
+    "desk": "say(self,command)",
 }
 
 
@@ -61,7 +78,7 @@ def described(node):
     made = [row for row in node.body if isinstance(row, ast.FunctionDef) and row.name == "__init__"]
     if not made:
         return node.name
-    return node.name + described(made[0])[len("__init__"):].replace("self,", "")
+    return node.name + described(made[0])[len("__init__"):].replace("self,", "").replace("self", "")
 
 
 class Interface(unittest.TestCase):
@@ -71,3 +88,30 @@ class Interface(unittest.TestCase):
             found = [described(node) for node in tree.body if isinstance(node, (ast.FunctionDef, ast.ClassDef))]
             for each in wanted.split():
                 self.assertIn(each, found, name)
+
+    def test_each_can_be_imported(self):
+        for name, wanted in INTERFACE.items():
+            module = import_module("bodyforbody." + name)
+            for each in wanted.split():
+                self.assertEqual(module.__name__, getattr(module, each.split("(")[0]).__module__)
+
+    def test_methods_stand_in_their_class(self):
+        for name, wanted in METHODS.items():
+            tree = ast.parse((PACKAGE / (name + ".py")).read_text())
+            rows = [row for node in tree.body if isinstance(node, ast.ClassDef) for row in node.body]
+            found = [described(row) for row in rows if isinstance(row, ast.FunctionDef)]
+            for each in wanted.split():
+                self.assertIn(each, found, name)
+
+    def test_it_has_all_that_the_document_lists(self):
+        document = PACKAGE.parent.parent / "shared" / "DOC.md"
+        if not document.exists():
+            self.skipTest("the document is not here")
+        lines = document.read_text().split("\n# The interface")[1].split("\n## bodyforbody/")[1:]
+        told = {each.split(".py")[0]: re.findall("`([A-Za-z_]+)[(`]", each.split("\n", 1)[1]) for each in lines}
+        wanted = {name: [each.split("(")[0] for each in row.split()] for name, row in INTERFACE.items()}
+        self.assertEqual(sorted(told), sorted(wanted))
+        for name, names in wanted.items():
+            self.assertLessEqual(set(names), set(told[name]), name)
+            if name not in ("machines", "bench", "desk"):
+                self.assertEqual(sorted(names), sorted(told[name]), name)
