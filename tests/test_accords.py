@@ -6,7 +6,6 @@ from bodyforbody.accords import accord_exchanges, alike_mixes, handed_on, is_acc
 from bodyforbody.closing import closing
 from bodyforbody.errors import InvalidQuestion
 from bodyforbody.falling import has
-from bodyforbody.joined import is_part
 from tests.helpers import LONG, NO_SEQUENCES, Case, exchanged, mixes_of, plain_closing, some
 
 ROUND = ((0, 1, 5), (0, 2, 3), (1, 2, 4), (1, 2, 7))
@@ -111,7 +110,6 @@ class HandedOn(Case):
             for one, other, count in accords:
                 if one != other:
                     self.assertIs(True, has(rows[(min(one, other), max(one, other))], count))
-            self.assertIs(True, is_part(rows[(0, 1)], rows[(0, 1)]))
 
     def test_refusals(self):
         for value in NO_ACCORDS:

@@ -224,3 +224,27 @@ class Expressions(unittest.TestCase):
             for node in ast.walk(tree):
                 if isinstance(node, ast.Raise) and node.exc is not None:
                     self.assertTrue(called(node.exc), f"L19 {name}:{node.lineno}")
+
+    def test_only_own_errors_are_caught(self):
+        own = {node.name for node in trees()["errors"].body if isinstance(node, ast.ClassDef)}
+        for name, tree in trees().items():
+            for node in ast.walk(tree):
+                if isinstance(node, ast.ExceptHandler):
+                    self.assertIsInstance(node.type, ast.Name, f"L19 {name}:{node.lineno}")
+                    self.assertIn(node.type.id, own | {"KeyError", "ZeroDivisionError"}, f"L19 {name}:{node.lineno}")
+
+    def test_what_is_done_at_last_is_plain(self):
+        for name, tree in trees().items():
+            for node in ast.walk(tree):
+                for row in getattr(node, "finalbody", []):
+                    self.assertIsInstance(row, ast.Assign, f"L6 {name}:{row.lineno}")
+                    self.assertIsInstance(row.value, (ast.Name, ast.Attribute), f"L6 {name}:{row.lineno}")
+                    for target in row.targets:
+                        self.assertIsInstance(target, (ast.Name, ast.Attribute), f"L6 {name}:{row.lineno}")
+
+    def test_nothing_reads_a_method_off_a_class(self):
+        classes = {node.name for tree in trees().values() for node in tree.body if isinstance(node, ast.ClassDef)}
+        for name, tree in trees().items():
+            for node in ast.walk(tree):
+                if isinstance(node, ast.Attribute) and isinstance(node.value, ast.Name):
+                    self.assertNotIn(node.value.id, classes, f"L18 {name}:{node.lineno}")

@@ -2,16 +2,15 @@
 
 from math import comb
 
+from bodyforbody.built import set_machine
 from bodyforbody.changes import same_loops
 from bodyforbody.closing import closing, tellers
 from bodyforbody.court import agreeing, reach
 from bodyforbody.errors import InvalidQuestion, InvalidRow
 from bodyforbody.falling import has, is_falling
-from bodyforbody.machines import Machine
 from bodyforbody.nests import (body_times, degrees, nest_agrees, nest_closing, nest_fault, nest_tests, sure_from)
 from tests.helpers import (LONG, NO_KNOWNS, NO_NESTS, SHIFT, Case, low_rows, machines, plain_row, plain_times,
                            rings_machine, some, some_nest)
-from bodyforbody.built import set_machine
 
 SQUARE, STAIRS = (("n", (("n", (0,)),)),), (("n", (("i", (0,)),)),)
 LOOP, TWO = (("n", (0,)),), (("n", (("m", (0,)),)),)
